@@ -1,0 +1,1 @@
+"""Widerows: deeds laid side by side in rows."""
