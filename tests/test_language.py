@@ -152,3 +152,43 @@ class Language(unittest.TestCase):
             for node in ast.walk(tree):
                 if isinstance(node, ast.Call) and isinstance(node.func, ast.Attribute):
                     self.assertIn(node.func.attr, METHODS | own, (path, node.lineno))
+
+    def test_methods_and_attributes(self):
+        methods, attributes = set(), set()
+        for path, tree in trees():
+            for node in ast.walk(tree):
+                if isinstance(node, ast.ClassDef):
+                    methods.update(part.name for part in node.body if isinstance(part, ast.FunctionDef))
+                if isinstance(node, ast.Attribute) and isinstance(node.ctx, ast.Store):
+                    self.assertIsInstance(node.value, ast.Name, (path, node.lineno))
+                    attributes.add(node.attr)
+        self.assertFalse(methods & attributes)
+        for name in methods - {"__init__"}:
+            self.assertFalse(any(hasattr(kind, name) for kind in (str, int, list, dict, set, tuple, bytes)), name)
+        for path, tree in trees():
+            for node in ast.walk(tree):
+                if isinstance(node, ast.Attribute) and isinstance(node.ctx, ast.Load):
+                    self.assertIn(node.attr, METHODS | methods | attributes, (path, node.lineno))
+
+    def test_generator_expressions(self):
+        takers = set("list tuple dict sorted sum min max any all".split())
+        for path, tree in trees():
+            placed = set()
+            for node in ast.walk(tree):
+                if isinstance(node, ast.Call) and isinstance(node.func, ast.Name) and node.func.id in takers:
+                    for part in node.args:
+                        if isinstance(part, ast.GeneratorExp):
+                            placed.add(id(part))
+                            self.assertEqual((len(node.args), node.keywords), (1, []), (path, node.lineno))
+            for node in ast.walk(tree):
+                if isinstance(node, ast.GeneratorExp):
+                    self.assertIn(id(node), placed, (path, node.lineno))
+
+    def test_sets_and_views_are_used_at_once(self):
+        for path, tree in trees():
+            for node in ast.walk(tree):
+                if isinstance(node, (ast.Assign, ast.Return)) and isinstance(node.value, ast.Call):
+                    taker = getattr(node.value.func, "id", getattr(node.value.func, "attr", ""))
+                    self.assertNotIn(taker, ("zip", "enumerate", "reversed", "range", "items", "keys", "values", "set"),
+                                     (path, node.lineno))
+                self.assertNotIsInstance(node, (ast.Set, ast.SetComp), path)
