@@ -1,8 +1,8 @@
-"""Slow plain oracles for rows laid at once, trees and the fewest rows, written as the document's words stand."""
+"""Slow plain oracles for rows laid at once, trees, the fewest rows and boxes, written as the document's words stand."""
 
 import itertools
 
-from tests.samples import WORDS, rows_hold_slowly, waits_slowly
+from tests.samples import WORDS, named, rows_hold_slowly, step, told_store, waits_slowly
 
 
 def works_of(machine, stretch):
@@ -122,3 +122,52 @@ def knots_in(tree):
 
 def pairs_of(papers):
     return tuple((i, j) for i, j, paper in papers)
+
+
+def lives_slowly(machine, stretch, rows):
+    givens, deeds, outs = stretch
+    works = works_of(machine, stretch)
+    length = length_slowly(machine, stretch, rows)
+    lives = []
+    for worth in range(givens + len(deeds)):
+        ends = [row for deed, row in zip(deeds, rows) if worth in named(deed)] + [length for out in outs if out == worth]
+        first = 0 if worth < givens else rows[worth - givens] + works[worth - givens][2]
+        lives.append((first, max(ends)) if ends else None)
+    return tuple(lives)
+
+
+def living_in(lives, row):
+    return [worth for worth, life in enumerate(lives) if life is not None and life[0] <= row <= life[1]]
+
+
+def boxes_slowly(machine, stretch, rows, boxes):
+    """The checker of 15, each row gone through; boxes are a tuple of whole numbers and None, as many as worths."""
+    lives = lives_slowly(machine, stretch, rows)
+    if any((life is None) != (box is None) for life, box in zip(lives, boxes)):
+        return False
+    for row in range(length_slowly(machine, stretch, rows) + 1):
+        here = [boxes[worth] for worth in living_in(lives, row)]
+        if len(here) != len(set(here)):
+            return False
+    return True
+
+
+def box_run_slowly(machine, stretch, rows, boxes, begin):
+    """Run by boxes, row by row."""
+    givens, deeds, outs = stretch
+    works = works_of(machine, stretch)
+    lying, store, shelf, coming = {}, dict(begin[1]), {}, {}
+    for given, worth in enumerate(begin[0]):
+        lying[boxes[given]] = worth
+    for row in range(length_slowly(machine, stretch, rows) + 1):
+        for k, deed in enumerate(deeds):
+            if rows[k] == row:
+                at_hand = {worth: 0 if boxes[worth] is None else lying.get(boxes[worth], 0) for worth in named(deed)}
+                try:
+                    coming[k] = step(deed, at_hand, store, shelf)
+                except ZeroDivisionError:
+                    return ("fault", k, told_store(store))
+        for k, deed in enumerate(deeds):
+            if rows[k] + works[k][2] - 1 == row and deed[0] not in ("write", "keep"):
+                lying[boxes[givens + k]] = coming[k]
+    return ("ended", tuple(0 if boxes[out] is None else lying.get(boxes[out], 0) for out in outs), told_store(store))

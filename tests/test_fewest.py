@@ -117,6 +117,15 @@ class Fewest(unittest.TestCase):
         self.assertEqual(self.few(machine, stretch), 6)
         self.assertGreater(knots_in(fewest_rows(machine, stretch)[1]), 1)
 
+    def test_rows_laid_at_once_that_papers_lengthen(self):
+        machine = machine_with((("u", 1), ("v", 1)), number=("u", 4, 1), read=("v", 4, 5), write=("v", 1, 4))
+        stretch = (1, (("write", 0, 3, 0), ("number", 3), ("read", 0, -1), ("number", -3)), ())
+        papers = all_papers(stretch)
+        lengths = [length_of(machine, stretch, laid(machine, stretch, told)) for told in (None, papers)]
+        self.assertEqual(lengths, [6, 8])
+        self.assertEqual(self.few(machine, stretch, papers), least_length(machine, stretch, pairs_of(papers)))
+        self.assertEqual(fewest_rows(machine, stretch, papers)[0], laid(machine, stretch))
+
     def test_both_sides_of_a_split(self):
         for machine, stretch in BRANCHING:
             self.assertEqual(self.few(machine, stretch), least_length(machine, stretch))

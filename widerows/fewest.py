@@ -8,8 +8,10 @@ from widerows.trees import is_knot, whole_windows
 from widerows.waits import waits_of
 from widerows.windows import narrowed, part_ahead, part_from
 
-# So many knots may be looked at: far above the hundred that must be, and still a matter of a second or two.
-MOST_KNOTS = 3000
+# A look at a knot takes about as long as there are pairs of deeds: of 24 deeds 3,000 are looked at, which is far above
+# the hundred that must be and still a matter of a second or two. Of many more deeds it is never below LEAST_KNOTS.
+MOST_PAIRS = 1728000
+LEAST_KNOTS = 200
 # A deeper tree has more than a hundred knots, as one has two below each split; this deep, calls can still go down it.
 DEEPEST = 60
 
@@ -64,13 +66,14 @@ class Search:
         self.machine = machine
         self.works = [work_of(machine, deed) for deed in stretch[1]]
         self.waits = waits_of(machine, stretch, papers)
+        self.most = max(LEAST_KNOTS, MOST_PAIRS // len(self.works) ** 2)
         self.looked = 0
         self.rows = None
 
     def look(self, windows):
         """(narrowed windows, None), or (None, knot) where one knot shows that nothing can be in the windows."""
         self.looked += 1
-        if self.looked > MOST_KNOTS:
+        if self.looked > self.most:
             raise TooMany(self.looked)
         narrow = narrowed(self.waits, windows)
         if narrow is None:
@@ -150,7 +153,9 @@ class Search:
 
 def fewest_rows(machine, stretch, papers=None):
     """(rows, tree): rows that hold of the least length, and a tree for that length less one; or TooMany."""
-    rows = laid(machine, stretch, papers)
+    # With fewer waits the rows laid at once may come to be longer, so those of all waits are asked, too.
+    tries = [laid(machine, stretch, papers), laid(machine, stretch)]
+    rows = min(tries, key=lambda told: length_of(machine, stretch, told))
     if not rows:
         return (rows, None)
     search = Search(machine, stretch, papers)

@@ -1,0 +1,81 @@
+"""What is told may be handed in again, however great; nothing that is handed in is changed (2)."""
+
+import copy
+import random
+import unittest
+
+from tests.samples import MEETING, ODD, WIDE, machine_with, some_machine, some_stretch
+from tests.slow import tree_slowly
+from tests.test_keeping import full_stretch
+from widerows.boxes import boxes_hold, least_boxes
+from widerows.errors import TooMany
+from widerows.fewest import fewest_rows
+from widerows.forks import is_fork
+from widerows.greedy import laid
+from widerows.keeping import kept
+from widerows.lives import lives_of
+from widerows.plain import plain_run
+from widerows.reach import reaches
+from widerows.rowruns import row_run
+from widerows.rows import length_of, rows_hold
+from widerows.trees import tree_holds
+from widerows.unlike import all_papers
+
+
+class Again(unittest.TestCase):
+    def test_stretches_with_keeps_and_fetches(self):
+        rng = random.Random(20)
+        great = 0
+        for _ in range(25):
+            machine = rng.choice((some_machine(rng), WIDE, machine_with(comes=4)))
+            stretch, rows, boxes = kept(machine, full_stretch(rng, 24, 4, 4), 4)
+            great = max(great, len(stretch[1]))
+            papers = all_papers(stretch)
+            self.assertEqual(len(reaches(machine, stretch, papers)), len(stretch[1]))
+            self.assertIs(rows_hold(machine, stretch, laid(machine, stretch, papers), papers), True)
+            self.assertEqual(len(lives_of(machine, stretch, rows)), len(boxes))
+            self.assertIs(boxes_hold(machine, stretch, rows, least_boxes(machine, stretch, rows)[1]), True)
+            begin = ((1, 2, 3, 4), ((0, 5), (2, -1)))
+            self.assertEqual(row_run(machine, stretch, rows, begin), plain_run(stretch, begin))
+            try:
+                fewest, tree = fewest_rows(machine, stretch, papers)
+            except TooMany:
+                continue
+            self.assertIs(rows_hold(machine, stretch, fewest, papers), True)
+            self.assertIs(tree_holds(machine, stretch, length_of(machine, stretch, fewest) - 1, tree, papers), True)
+        self.assertGreater(great, 40)
+
+    def test_trees_of_others(self):
+        rng = random.Random(21)
+        told = {True: 0, False: 0}
+        pairs = []
+        for _ in range(40):
+            machine, stretch = some_machine(rng), some_stretch(rng, 7, MEETING)
+            try:
+                pairs.append((machine, stretch, fewest_rows(machine, stretch)[1]))
+            except TooMany:
+                continue
+        for machine, stretch, _ in pairs:
+            for _, _, tree in pairs:
+                length = rng.randint(0, 8)
+                truth = tree_holds(machine, stretch, length, tree)
+                self.assertIs(truth, tree_slowly(machine, stretch, length, tree))
+                told[truth] += 1
+        self.assertGreater(min(told.values()), 50)
+
+    def test_things_are_not_changed(self):
+        before = copy.deepcopy(ODD)
+        stretch = (1, (("number", 1), ("plus", 0, 1)), (2,))
+        for thing in ODD:
+            tree_holds(WIDE, stretch, 0, thing)
+            tree_holds(WIDE, stretch, 0, ("split", 0, 1, thing, thing))
+            tree_holds(WIDE, stretch, 0, ("waits",), [thing])
+            boxes_hold(WIDE, stretch, (0, 1), thing)
+            boxes_hold(WIDE, stretch, (0, 1), (thing, 0, thing))
+            is_fork(thing)
+            is_fork((1, thing, 0, thing, thing))
+        self.assertEqual(ODD, before)
+
+
+if __name__ == "__main__":
+    unittest.main()
