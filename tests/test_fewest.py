@@ -32,6 +32,18 @@ BRANCHING = (
      (6, (("minus", 4, 4), ("minus", 5, 4), ("plus", 4, 4), ("share", 0, 8), ("number", 1)), (5,))),
 )
 
+# Twenty times as many knots as are looked at don't decide this one.
+HARD = (
+    machine_with(
+        (("a", 1), ("b", 2), ("c", 1)), number=("c", 4, 1), plus=("a", 1, 3), times=("b", 4, 4), less=("c", 1, 3),
+        pick=("b", 2, 3), share=("c", 1, 3), read=("a", 3, 1), unit="a"),
+    (3, (
+        ("times", 0, 2), ("read", 0, -1), ("times", 2, 4), ("less", 2, 2), ("share", 2, 6), ("share", 2, 7),
+        ("plus", 2, 3), ("pick", 9, 1, 3), ("less", 8, 10), ("less", 5, 3), ("share", 12, 3), ("plus", 6, 13),
+        ("number", 0), ("plus", 7, 13), ("plus", 10, 2), ("plus", 12, 13), ("number", -1), ("read", 13, 1),
+        ("number", -3), ("less", 18, 15), ("number", 0), ("times", 19, 16), ("plus", 13, 8), ("share", 11, 25)), ()),
+)
+
 
 def small_machine(rng, most=3):
     """A machine whose holds and comes are at most three, with few units."""
@@ -176,6 +188,11 @@ class Fewest(unittest.TestCase):
                 alone += 1
                 self.assertEqual(self.few(machine, stretch), length)
         self.assertGreater(alone, 30)
+
+    def test_a_hard_one_in_short_time(self):
+        begun = time.process_time()
+        self.tried(*HARD)
+        self.assertLess(time.process_time() - begun, 60)
 
     def test_24_deeds_in_short_time(self):
         rng = random.Random(143)
