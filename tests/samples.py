@@ -187,3 +187,29 @@ def some_rows(rng, machine, stretch, pairs=(), slack=2):
             row += 1
         rows.append(row)
     return tuple(rows)
+
+
+SHELFLESS = WORDS[:9]
+# Words by which the rounds of a loop often wait for one another.
+ROUNDING = SHELFLESS + ("read", "write", "share", "plus", "plus", "minus")
+
+
+def some_loop(rng, most=8, words=ROUNDING, givens=None):
+    """A loop by chance: mostly what is carried on are deeds' worths, now and then givens."""
+    givens, deeds, _ = some_stretch(rng, most, words, givens=rng.randrange(0, 5) if givens is None else givens)
+    deeds = tuple(("number", deed[1]) if deed[0] == "fetch" else deed for deed in deeds)
+    known = [worth for worth in range(givens + len(deeds)) if worth < givens or deeds[worth - givens][0] != "write"]
+    own = [worth for worth in known if worth >= givens] or known
+    return (givens, deeds, tuple(rng.choice(own if rng.random() < 0.7 else known) for _ in range(givens)))
+
+
+def run_rounds(loop, begin, rounds):
+    """The oracle's run of a loop, round by round."""
+    givens, deeds, carried = loop
+    worths, store = tuple(begin[0]), tuple(begin[1])
+    for at in range(rounds):
+        end, known = run_one_by_one((givens, deeds, ()), (worths, store))
+        if end[0] == "fault":
+            return ("fault", at, end[1], end[2])
+        worths, store = tuple(known[worth] for worth in carried), end[2]
+    return ("ended", worths, store)

@@ -4,16 +4,21 @@ import copy
 import random
 import unittest
 
-from tests.samples import MEETING, ODD, WIDE, machine_with, some_machine, some_stretch
+from tests.samples import MEETING, ODD, WIDE, machine_with, run_rounds, some_begin, some_machine, some_stretch
 from tests.slow import tree_slowly
+from tests.test_forks import some_fork
 from tests.test_keeping import full_stretch
+from widerows.beats import beat_holds
 from widerows.boxes import boxes_hold, least_boxes
 from widerows.errors import TooMany
 from widerows.fewest import fewest_rows
-from widerows.forks import is_fork
+from widerows.forkruns import fork_laid, fork_rows_hold, fork_run
+from widerows.forks import is_fork, plain_fork_run
 from widerows.greedy import laid
 from widerows.keeping import kept
 from widerows.lives import lives_of
+from widerows.loops import is_loop, loop_run
+from widerows.moving import all_up, moved_up
 from widerows.plain import plain_run
 from widerows.reach import reaches
 from widerows.rowruns import row_run
@@ -63,9 +68,30 @@ class Again(unittest.TestCase):
                 told[truth] += 1
         self.assertGreater(min(told.values()), 50)
 
+    def test_forks_with_a_great_head(self):
+        rng = random.Random(22)
+        great = 0
+        for _ in range(150):
+            machine, fork = some_machine(rng), all_up(some_fork(rng, 12))
+            great = max(great, len(fork[1]))
+            self.assertEqual(all_up(fork), fork)
+            rows = fork_laid(machine, fork)
+            self.assertIs(fork_rows_hold(machine, fork, rows), True)
+            begin = some_begin(rng, (fork[0], (), ()))
+            self.assertEqual(fork_run(machine, fork, rows, begin), plain_fork_run(fork, begin))
+        self.assertGreater(great, 16)
+
+    def test_great_worths(self):
+        # Twelve rounds of squares, and as many again from where they end.
+        loop = (2, (("times", 0, 0), ("write", 1, 0, 2), ("plus", 1, 1)), (2, 4))
+        once = loop_run(loop, ((-1000000, 1000000), ()), 12)
+        self.assertEqual(once[1][0], 10 ** (6 * 2 ** 12))
+        self.assertEqual(loop_run(loop, once[1:], 2), run_rounds(loop, ((-1000000, 1000000), ()), 14))
+
     def test_things_are_not_changed(self):
         before = copy.deepcopy(ODD)
         stretch = (1, (("number", 1), ("plus", 0, 1)), (2,))
+        fork = (1, (), 0, ((("number", 1),), (1,)), ((), ()))
         for thing in ODD:
             tree_holds(WIDE, stretch, 0, thing)
             tree_holds(WIDE, stretch, 0, ("split", 0, 1, thing, thing))
@@ -74,6 +100,13 @@ class Again(unittest.TestCase):
             boxes_hold(WIDE, stretch, (0, 1), (thing, 0, thing))
             is_fork(thing)
             is_fork((1, thing, 0, thing, thing))
+            is_loop(thing)
+            is_loop((1, thing, thing))
+            fork_rows_hold(WIDE, fork, thing)
+            fork_rows_hold(WIDE, fork, (thing, (0,), thing))
+            beat_holds(WIDE, (1, stretch[1], (2,)), 3, thing)
+            beat_holds(WIDE, (1, stretch[1], (2,)), thing, (0, 1))
+            self.assertEqual(moved_up(fork, "yes", 0, [thing])[1], (("number", 1),))
         self.assertEqual(ODD, before)
 
 

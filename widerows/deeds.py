@@ -21,6 +21,12 @@ def named_by(deed):
     return tuple([part for part, sign in zip(deed[1:], PARTS[deed[0]]) if sign == "w"])
 
 
+def renamed(deed, names):
+    """The deed with other numbers for the worths that it names, by a dict; those that aren't in it stay."""
+    parts = [names.get(part, part) if sign == "w" else part for part, sign in zip(deed[1:], PARTS[deed[0]])]
+    return (deed[0],) + tuple(parts)
+
+
 def is_worth(thing, givens, deeds, k):
     """Whether a thing is the number of a worth ahead of deed k's, the deeds ahead of k being deeds."""
     if not is_whole_from(thing, 0) or thing >= givens + k:

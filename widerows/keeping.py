@@ -1,7 +1,7 @@
 """Worths kept on the shelf where boxes are few (17)."""
 
 from widerows.boxes import least_boxes
-from widerows.deeds import PARTS, named_by
+from widerows.deeds import named_by, renamed
 from widerows.errors import NoBoxes
 from widerows.greedy import is_free, laid, waited_for
 from widerows.machines import work_of
@@ -18,12 +18,6 @@ def needs_of(stretch):
     for worth in outs:
         needs[worth].append(len(deeds))
     return needs
-
-
-def renamed(deed, names):
-    """The deed with other numbers for the worths that it names."""
-    parts = [names[part] if sign == "w" else part for part, sign in zip(deed[1:], PARTS[deed[0]])]
-    return (deed[0],) + tuple(parts)
 
 
 class Packer:
