@@ -95,7 +95,8 @@ def rows_by_rests(waits, beat, rests):
     for _ in range(len(rows) + 1):
         before = list(rows)
         for i, j, many, rounds in waits:
-            while rows[j] + beat * rounds < rows[i] + many:
+            least = rows[i] + many - beat * rounds
+            while rows[j] < least:
                 rows[j] += beat
         if rows == before:
             return tuple(rows)

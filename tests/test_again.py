@@ -6,9 +6,11 @@ import unittest
 
 from tests.samples import MEETING, ODD, WIDE, machine_with, run_rounds, some_begin, some_machine, some_stretch
 from tests.slow import tree_slowly
+from tests.slowbeats import beat_knots_in, beat_tree_slowly
 from tests.test_forks import some_fork
 from tests.test_keeping import full_stretch
 from widerows.beats import beat_holds
+from widerows.beattrees import beat_tree_holds
 from widerows.boxes import boxes_hold, least_boxes
 from widerows.errors import TooMany
 from widerows.fewest import fewest_rows
@@ -16,11 +18,13 @@ from widerows.forkruns import fork_laid, fork_rows_hold, fork_run
 from widerows.forks import is_fork, plain_fork_run
 from widerows.greedy import laid
 from widerows.keeping import kept
+from widerows.leastbeat import least_beat
 from widerows.lives import lives_of
 from widerows.loops import is_loop, loop_run
 from widerows.moving import all_up, moved_up
 from widerows.plain import plain_run
 from widerows.reach import reaches
+from widerows.rounds import rounds_run
 from widerows.rowruns import row_run
 from widerows.rows import length_of, rows_hold
 from widerows.trees import tree_holds
@@ -88,6 +92,25 @@ class Again(unittest.TestCase):
         self.assertEqual(once[1][0], 10 ** (6 * 2 ** 12))
         self.assertEqual(loop_run(loop, once[1:], 2), run_rounds(loop, ((-1000000, 1000000), ()), 14))
 
+    def test_great_trees_for_beats(self):
+        # Four beats in a row for which thousands of knots are needed in all.
+        machine = machine_with(
+            (("a", 2), ("b", 1)), plus=("b", 1, 3), share=("a", 6, 2), read=("b", 6, 5), write=("a", 6, 4), unit="a")
+        loop = (1, (("write", 0, 3, 0), ("read", 0, 3), ("read", 2, 3), ("write", 3, -2, 2), ("share", 3, 0), ("plus", 0, 0)), (3,))
+        beat, rows, trees = least_beat(machine, loop)
+        self.assertEqual(beat, 17)
+        self.assertGreater(sum(map(beat_knots_in, trees)), 3000)
+        for lesser, tree in enumerate(trees, 1):
+            self.assertIs(beat_tree_holds(machine, loop, lesser, tree), True)
+            self.assertIs(beat_tree_slowly(machine, loop, lesser, tree), True)
+            # With other numbers and names it is told, too, whether it is one.
+            self.assertIs(beat_tree_holds(machine, loop, lesser + 1, tree), beat_tree_slowly(machine, loop, lesser + 1, tree))
+            turned = other_deeds(tree, len(loop[1]))
+            self.assertIs(beat_tree_holds(machine, loop, lesser, turned), beat_tree_slowly(machine, loop, lesser, turned))
+        begin = ((2,), ((1, 3), (2, 5), (5, 1)))
+        for rounds in range(5):
+            self.assertEqual(rounds_run(machine, loop, beat, rows, begin, rounds), loop_run(loop, begin, rounds))
+
     def test_things_are_not_changed(self):
         before = copy.deepcopy(ODD)
         stretch = (1, (("number", 1), ("plus", 0, 1)), (2,))
@@ -108,6 +131,15 @@ class Again(unittest.TestCase):
             beat_holds(WIDE, (1, stretch[1], (2,)), thing, (0, 1))
             self.assertEqual(moved_up(fork, "yes", 0, [thing])[1], (("number", 1),))
         self.assertEqual(ODD, before)
+
+
+def other_deeds(tree, many):
+    """The tree with another deed in each place."""
+    if tree[0] == "first":
+        return ("first", (tree[1] + 1) % many, other_deeds(tree[2], many))
+    if tree[0] == "split":
+        return ("split", (tree[1] + 1) % many, tuple(other_deeds(knot, many) for knot in tree[2]))
+    return ("ring", tuple((k + 1) % many for k in tree[1])) if tree[0] == "ring" else tree
 
 
 if __name__ == "__main__":
