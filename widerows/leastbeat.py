@@ -118,7 +118,7 @@ class BeatSearch:
 
         Only what is counted between k and deeds of known rests is changed by it, so a ring goes through one of these.
         """
-        known = [i for i, told in enumerate(rests) if told is not None]
+        known = [i for i, own in enumerate(rests) if own is not None]
         told = with_rest(rests, k, rest)
         ins = [(i, count_by(self.counts, self.beat, told, i, k)) for i in known if (i, k) in self.counts]
         outs = [(j, count_by(self.counts, self.beat, told, k, j)) for j in known if (k, j) in self.counts]
